@@ -62,3 +62,28 @@ func overwrite(list []int) {
 		list[i] = -99
 	}
 }
+
+// checkApart checks that no list, with what is behind it, shares memory with
+// another one of the result. It overwrites them all.
+func checkApart(t *testing.T, what string, lists [][]int) {
+	t.Helper()
+	fill := func(i int) {
+		list := lists[i][:cap(lists[i])]
+		for k := range list {
+			list[k] = i
+		}
+	}
+	check := func() {
+		for i, list := range lists {
+			checkEqual(t, what, list, slices.Repeat([]int{i}, len(list)))
+		}
+	}
+	for i := range lists {
+		fill(i)
+	}
+	check()
+	for i := range lists {
+		fill(len(lists) - 1 - i)
+	}
+	check()
+}
